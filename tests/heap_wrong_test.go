@@ -126,10 +126,7 @@ func TestHeapChangesNoArgument(t *testing.T) {
 	ops[7].Data = append(ops[7].Data, 8)[:3]
 	draws, before := slices.Clone(c.Draws), copiedOps(ops)
 	r := impl.RunHeap(c, ops)
-	same := func(a, b impl.Op) bool {
-		return a.Kind == b.Kind && a.Ref == b.Ref && a.P == b.P && a.A == b.A && a.B == b.B && slices.Equal(a.Data, b.Data)
-	}
-	if !slices.Equal(c.Draws, draws) || !slices.EqualFunc(ops, before, same) {
+	if !slices.Equal(c.Draws, draws) || !slices.EqualFunc(ops, before, sameOp) {
 		t.Errorf("an argument was changed")
 	}
 	if c.Draws[:len(draws)+1][len(draws)] != 77 || ops[:len(before)+1][len(before)].A != 5 || ops[7].Data[:4][3] != 8 {
@@ -149,7 +146,7 @@ func TestHeapChangesNoArgument(t *testing.T) {
 	}
 }
 
-// list is one of the lists of a report.
+// list is one of the lists of an answer.
 type list struct {
 	name  string
 	read  func() string
@@ -185,14 +182,12 @@ func lists(r impl.HeapReport) []list {
 	return all
 }
 
-func TestHeapListsShareNoMemory(t *testing.T) {
-	c, ops := busy()
-	m := impl.RunHeap(c, ops).Meta
-	if len(m.Open) == 0 || len(m.Slots) == 0 || len(m.Ranges) == 0 || len(m.LargeWait) == 0 || len(m.Released) == 0 || len(m.Waits[1].Fifo) == 0 {
-		t.Fatalf("a list is empty: %v", m)
-	}
-	for i := range lists(impl.RunHeap(c, ops)) {
-		all := lists(impl.RunHeap(c, ops))
+// expectOwnMemory spoils each list of an answer, and asks for the others to stay. answer
+// gives the lists of the same answer anew.
+func expectOwnMemory(t *testing.T, answer func() []list) {
+	t.Helper()
+	for i := range answer() {
+		all := answer()
 		var before []string
 		for _, x := range all {
 			before = append(before, x.read())
@@ -204,6 +199,15 @@ func TestHeapListsShareNoMemory(t *testing.T) {
 			}
 		}
 	}
+}
+
+func TestHeapListsShareNoMemory(t *testing.T) {
+	c, ops := busy()
+	m := impl.RunHeap(c, ops).Meta
+	if len(m.Open) == 0 || len(m.Slots) == 0 || len(m.Ranges) == 0 || len(m.LargeWait) == 0 || len(m.Released) == 0 || len(m.Waits[1].Fifo) == 0 {
+		t.Fatalf("a list is empty: %v", m)
+	}
+	expectOwnMemory(t, func() []list { return lists(impl.RunHeap(c, ops)) })
 }
 
 func TestHeapKeptReportsStay(t *testing.T) {
